@@ -1,0 +1,1 @@
+"""Sevenpoints: programs without jumps, and the cheapest placing of their values."""

@@ -1,0 +1,52 @@
+"""Rows and integers: what values are told to be, and kept as."""
+
+
+def is_row(value):
+    """Whether a value may be passed as a row."""
+    return isinstance(value, (list, tuple))
+
+
+def is_integer(value):
+    """Whether a value is an integer, which True and False are not."""
+    return isinstance(value, int) and not isinstance(value, bool)
+
+
+def is_between(value, low, high):
+    """Whether a value is an integer from low to high."""
+    return is_integer(value) and low <= value <= high
+
+
+def is_natural(value):
+    """Whether a value is an integer from 0 on."""
+    return is_integer(value) and value >= 0
+
+
+def as_row(value):
+    """The value with a tuple for each list in it, at all depths of lists and tuples."""
+    if not is_row(value):
+        return value
+    # The rows that are being read stand on a stack, as they may be nested deeper than calls should be.
+    rows = [value]
+    kept = [[]]
+    while len(kept[0]) < len(rows[0]):
+        if len(kept[-1]) == len(rows[-1]):
+            rows.pop()
+            whole = tuple(kept.pop())
+            kept[-1].append(whole)
+            continue
+        item = rows[-1][len(kept[-1])]
+        if is_row(item):
+            rows.append(item)
+            kept.append([])
+        else:
+            kept[-1].append(item)
+    return tuple(kept[0])
+
+
+def each_once(items):
+    """The unlike ones of some items, in their order."""
+    found = []
+    for item in items:
+        if item not in found:
+            found.append(item)
+    return tuple(found)
