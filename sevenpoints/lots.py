@@ -2,7 +2,7 @@
 
 from sevenpoints.drawing import Drawing
 from sevenpoints.errors import BadNumber
-from sevenpoints.rows import as_row, is_between
+from sevenpoints.rows import as_row, is_ascending, is_between
 
 
 class Lot:
@@ -26,7 +26,7 @@ def is_ascending_row(points, many):
     """Whether a value is a strictly ascending tuple of integers from 0 to below many."""
     if not isinstance(points, tuple) or not all([is_between(point, 0, many - 1) for point in points]):
         return False
-    return all([one < other for one, other in zip(points, points[1:])])
+    return is_ascending(points)
 
 
 def has_parent(lot, index):

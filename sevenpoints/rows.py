@@ -35,12 +35,35 @@ def as_row(value):
             kept[-1].append(whole)
             continue
         item = rows[-1][len(kept[-1])]
-        if is_row(item):
+        if not is_row(item):
+            kept[-1].append(item)
+        elif holds_rows(item):
             rows.append(item)
             kept.append([])
         else:
-            kept[-1].append(item)
+            kept[-1].append(tuple(item))
     return tuple(kept[0])
+
+
+def holds_rows(row):
+    """Whether an item of a row is a row."""
+    return any([is_row(item) for item in row])
+
+
+def is_ascending(row):
+    """Whether each item of a row is less than the next one."""
+    return all([one < other for one, other in zip(row, row[1:])])
+
+
+def is_same(value, model):
+    """Whether a value is just a model of integers, strings, True, False, None and tuples; a bool is no integer."""
+    if isinstance(model, tuple):
+        if not isinstance(value, tuple) or len(value) != len(model):
+            return False
+        return all([is_same(one, other) for one, other in zip(value, model)])
+    if value is not None and not isinstance(value, (int, str)):
+        return False
+    return isinstance(value, bool) == isinstance(model, bool) and value == model
 
 
 def each_once(items):
