@@ -25,6 +25,23 @@ INTERFACE = {
                "name_set(deed)", "ways_from(graph, point)", "ways_to(graph, point)"],
     "lots": ["Lot(points, parent)", "is_tree(graph, lots)", "width(lots)", "lots_of(program)", "shared(lots, index)",
              "home_of(lots, one, other)", "below(lots, index)"],
+    "nets": ["Tie(one, other, costs)", "Net(states, ties)", "sum_of(net, choice)", "least_sum(net, lots)",
+             "least_choice(net, lots)", "least_bound(net, lots)", "is_bound(net, lots, told)", "bound_sum(net, lots, told)",
+             "joined(one, other)", "narrowed(net, point, some)"],
+    "wants": ["wanted(graph)", "way_to(graph, point, name)", "is_way(graph, point, name, told)", "crowd(graph)",
+              "together(graph)", "is_closed(graph, told)", "rounds_of(graph, order)"],
+    "placings": ["stands(program, registers, point)", "is_placing(program, registers, told)",
+                 "pieces(program, placing, index)", "cost(program, prices, placing)", "net_of(program, registers, prices)"],
+    "leasts": ["least_cost(program, registers, prices)", "least_placing(program, registers, prices)",
+               "LeastPaper(placing, bound)", "least_paper(program, registers, prices)",
+               "is_least_paper(program, registers, prices, told)", "cost_line(program, prices, most)"],
+    "machine": ["Step(start, deed, moves, end)", "Code(steps)", "Ran(value, turns, pieces)", "run_code(code, begin, turns)",
+                "state_after(code, begin, turns)", "pieces_after(code, begin, turns)", "step_pieces(step)",
+                "code_cost(code, prices)"],
+    "codes": ["begin_of(program, placing, inputs)", "code_of(program, placing)", "is_code(program, placing, told)",
+              "best_placing(program, registers, rows, turns)"],
+    "moves": ["closed_rounds(moves)", "fewest_in_row(moves)", "in_a_row(moves, spare)", "is_in_row(moves, spare, told)",
+              "fewest_of_step(step)", "row_of_step(step, spare)", "does_step(step, spare, told)"],
 }
 
 METHODS = (
