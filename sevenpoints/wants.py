@@ -112,12 +112,11 @@ def way_to(graph, point, name):
 def is_way(graph, point, name, told):
     """Whether a value is a way that shows that a name is wanted at a point."""
     check_point_and_name(graph, point, name)
-    if not isinstance(told, tuple) or len(told) == 0:
-        return False
-    if not all([is_between(at, 0, len(graph.edges) - 1) for at in told]):
+    if not isinstance(told, tuple) or not all([is_between(at, 0, len(graph.edges) - 1) for at in told]):
         return False
     edges = [graph.edges[at] for at in told]
     ahead = edges[:-1]
+    # No edge at all is no way, either: the first one must begin at the point.
     if [edge.start for edge in edges] != [point] + [edge.end for edge in ahead]:
         return False
     return name not in [name_set(edge.deed) for edge in ahead] and name in names_read(edges[-1].deed)

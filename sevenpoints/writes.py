@@ -103,6 +103,7 @@ class Untangling:
     def loosen(self):
         """Put into the spare place what is in the way: the value that is no move, otherwise a place of a round."""
         others = [place for place in list(self.left) if not is_move(self.left[place])]
+        # The value goes first: a copy of some place might have to stay in the spare place until the value is done.
         if others:
             self.put(self.spare, self.left[others[0]])
             self.left[others[0]] = move_from(self.spare)

@@ -351,6 +351,21 @@ class Steps(Case):
             knots += knot_by_hand(told)
         self.assertGreater(knots, 10)
 
+    def test_all_values_beside_two_moves(self):
+        for names in itertools.permutations((0, 1, "a", "b")):
+            first, second, third, fourth = names
+            for one, other in ((second, third), (second, fourth), (third, fourth), (second, second)):
+                for sources in itertools.product(names, repeat=2):
+                    told = step(("set", first, ("plus", at(one), at(other))), *zip((second, third), sources))
+                    self.right(told, "z")
+
+    def test_a_knot_that_reads_from_outside(self):
+        # The value must go ahead: a copy of the place 0 alone would be in the spare place for too long.
+        told = step(("set", "p", ("plus", at("u"), at(0))), ("u", "p"), (0, "y"))
+        self.assertEqual(fewest_of_step(told), 4)
+        self.right(told, "z")
+        self.assertEqual(fewest_by_search(told, "z", False), 4)
+
     def test_greater_steps(self):
         dice = random.Random(135)
         knots = 0
@@ -451,6 +466,11 @@ class DoesStep(unittest.TestCase):
                       ("set", "z", ("as", ("at", -1))), ("set", "z", ("as", ("at", True))), ("set", "z", (("as",), 1)), None, 5, "set",
                       ("give", 5), (["set"], "z", value), ("set", "z", ("less", None, 1)), ("set", b"z", value), ("jump", 0)):
             self.assertIs(does_step(self.STEP, "z", right + (wrong,)), False)
+        # A bool is no register, though it equals one.
+        self.assertIs(does_step(self.STEP, "z", (put(0, value), ("set", True, ("as", at(2))))), False)
+        self.assertIs(does_step(self.STEP, "z", (("set", False, value), copy(1, 2))), False)
+        self.assertIs(does_step(self.STEP, "z", (put(0, ("plus", at(True), at("a"))), copy(1, 2))), False)
+        self.assertIs(does_step(self.STEP, "z", right + (("set", ["z"], value),)), False)
         for fine in (put("z", value), put("z", ("less", 10 ** 30, at(""))), put("z", ("times", at(5), -10 ** 9)), put("z", ("as", 0))):
             self.assertIs(does_step(self.STEP, "z", right + (fine,)), True)
 

@@ -137,7 +137,7 @@ class Objects(Case):
     def test_ties_that_do_not_fit(self):
         good = Tie(0, 1, ((1, 2, 3), (4, 5, 6)))
         rows = good.costs
-        for tie in (Tie(0, 2, rows), Tie(-1, 1, rows), Tie(0, -1, rows), Tie(False, 1, rows), Tie(0, True, rows),
+        for tie in (Tie(0, 2, rows), Tie(2, 1, rows), Tie(7, 0, rows), Tie(-1, 1, rows), Tie(0, -1, rows), Tie(False, 1, rows), Tie(0, True, rows),
                     Tie("0", 1, rows), Tie(0, None, rows), Tie(1, 0, rows), Tie(0, 0, rows), Tie(1, 1, rows), Tie(0, 1, rows[:1]),
                     Tie(0, 1, rows + rows[:1]), Tie(0, 1, ()), Tie(0, 1, ((1, 2, 3), (4, 5))), Tie(0, 1, ((1, 2, 3), (4, 5, 6, 7))),
                     Tie(0, 1, ((1, 2, 3), (4, 5, -1))), Tie(0, 1, ((1, 2, 3), (4, 5, True))), Tie(0, 1, ((1, 2, 3), (4, 5, "6"))),

@@ -117,7 +117,7 @@ class Ways(Case):
 
     def test_the_least_indices_of_all_shortest(self):
         skip, give = ("skip",), ("give", "x")
-        graph = Graph(8, [Edge(4, give, 1), Edge(3, skip, 5), Edge(0, skip, 6), Edge(0, ("set", "x", ("as", 1)), 3),
+        graph = Graph(8, [Edge(4, give, 1), Edge(3, skip, 5), Edge(0, skip, 6), Edge(0, ("set", "x", ("as", 1)), 4),
                           Edge(0, skip, 4), Edge(5, give, 1), Edge(6, skip, 3), Edge(6, skip, 4), Edge(7, skip, 6),
                           Edge(7, skip, 3), Edge(4, give, 1), Edge(7, skip, 3)])
         self.assertEqual([way_to(graph, point, "x") for point in range(8)],
