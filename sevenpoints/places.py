@@ -3,6 +3,7 @@
 A machine operand is an integer, or ("at", place).
 """
 
+from sevenpoints.programs import PAIR_WORDS
 from sevenpoints.rows import each_once, is_integer, is_natural
 
 
@@ -43,6 +44,13 @@ def is_machine_value(value):
     if len(value) == 2:
         return value[0] == "as"
     return value[0] in ("plus", "less") or value[0] == "times" and is_integer(value[2])
+
+
+def is_machine_pair(value):
+    """Whether a value is a machine pair."""
+    if not isinstance(value, tuple) or len(value) != 3 or not isinstance(value[0], str):
+        return False
+    return value[0] in PAIR_WORDS and is_machine_operand(value[1]) and is_machine_operand(value[2])
 
 
 def places_at(operands):

@@ -55,6 +55,11 @@ def is_ascending(row):
     return all([one < other for one, other in zip(row, row[1:])])
 
 
+def is_order(value, many):
+    """Whether a value is a row with each integer from 0 to below many once."""
+    return is_row(value) and all([is_integer(item) for item in value]) and sorted(value) == list(range(many))
+
+
 def is_same(value, model):
     """Whether a value is just a model of integers, strings, True, False, None and tuples; a bool is no integer."""
     if isinstance(model, tuple):

@@ -2,7 +2,7 @@
 
 from sevenpoints.errors import BadName, BadRow
 from sevenpoints.graphs import check_point, name_set, names_read
-from sevenpoints.rows import is_ascending, is_between, is_integer, is_row
+from sevenpoints.rows import is_ascending, is_between, is_order
 
 
 def passing(graph):
@@ -50,16 +50,9 @@ def wanted(graph):
     return tables[-1] if tables else ((),) * graph.points
 
 
-def is_order(graph, value):
-    """Whether a value is a row with the index of each edge once."""
-    if not is_row(value) or not all([is_integer(at) for at in value]):
-        return False
-    return sorted(value) == list(range(len(graph.edges)))
-
-
 def rounds_of(graph, order):
     """The tables behind the rounds in an order of the edges, up to the first round that adds nothing."""
-    if not is_order(graph, order):
+    if not is_order(order, len(graph.edges)):
         raise BadRow(order)
     return tables_of(graph, order)
 

@@ -157,15 +157,27 @@ class Terms:
         parts = [self.of_operand(operand) for operand in value[1:]]
         return parts[0] if value[0] == "as" else self.number_of((value[0], parts[0], parts[1]))
 
+    def put(self, place, value):
+        """Put into a place what a value is."""
+        self.held[place] = self.of_value(value)
+
+    def needed_by(self, writes):
+        """For the places of writes the numbers of what they must have behind these."""
+        return {place: self.of_value(value) for place, value in writes}
+
+    def have(self, needed, spare):
+        """Whether each place but the spare one has what is needed there, or else what it had at first."""
+        for place in list(self.held) + list(needed):
+            first = self.number_of(("at", place))
+            if place != spare and self.at(place) != needed.get(place, first):
+                return False
+        return True
+
 
 def does_writes(writes, spare, row):
     """Whether a row of pairs (place, value), done one behind another, does writes."""
     terms = Terms()
-    needed = {place: terms.of_value(value) for place, value in writes}
+    needed = terms.needed_by(writes)
     for place, value in row:
-        terms.held[place] = terms.of_value(value)
-    for place in list(terms.held) + list(needed):
-        first = terms.number_of(("at", place))
-        if place != spare and terms.at(place) != needed.get(place, first):
-            return False
-    return True
+        terms.put(place, value)
+    return terms.have(needed, spare)
