@@ -52,26 +52,17 @@ def code_text(code):
     return "".join([step_text(step) + "\n" for step in code.steps])
 
 
-def natural_of(word):
-    """The INTEGER from 0 on that a word is; None if it is none."""
-    number = integer_of(word, GREATEST_INTEGER)
-    return None if number is None or number < 0 else number
-
-
 def place_of(word):
     """The place that a word tells; None if it tells none."""
-    if word.startswith(REGISTER_SIGN):
-        return natural_of(word[1:])
-    return word if is_name(word) else None
+    if not word.startswith(REGISTER_SIGN):
+        return word if is_name(word) else None
+    number = integer_of(word[1:], GREATEST_INTEGER)
+    return None if number is None or number < 0 else number
 
 
 def take_point(line):
     """Read the point that must come next."""
-    point = natural_of(line.next_word())
-    if point is None:
-        line.refuse()
-    line.take()
-    return point
+    return line.take_between(0, GREATEST_INTEGER)
 
 
 def take_place(line, taken):

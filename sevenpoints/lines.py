@@ -110,7 +110,7 @@ class Tracing:
         """Whether the step has a test of this very pair."""
         return self.tested is not None and self.pair_told(pair) == self.tested
 
-    def behind(self, line, at):
+    def line_behind(self, line, at):
         """The number of the line that comes behind a line that is no give and has the number at."""
         if line[0] == "set":
             self.terms.put(line[1], line[2])
@@ -132,7 +132,7 @@ def are_right_for(step, spare, told):
             return tracing.gives(line[1])
         if line[0] == "when" and not tracing.is_tested(line[1]):
             return False
-        at = tracing.behind(line, at)
+        at = tracing.line_behind(line, at)
         if at == goal:
             return tracing.has_moved()
         if at == len(told.rows):

@@ -60,13 +60,17 @@ class Line:
             self.refuse()
         return self.take()
 
-    def take_integer(self, greatest):
-        """Read the INTEGER, from -greatest to greatest, that must come next."""
-        number = integer_of(self.next_word(), greatest)
-        if number is None:
+    def take_between(self, low, high):
+        """Read the INTEGER, from low to high, that must come next; high is 0 or more."""
+        number = integer_of(self.next_word(), max(-low, high))
+        if number is None or not low <= number <= high:
             self.refuse()
         self.take()
         return number
+
+    def take_integer(self, greatest):
+        """Read the INTEGER, from -greatest to greatest, that must come next."""
+        return self.take_between(-greatest, greatest)
 
     def finish(self):
         """Let nothing but the end of the line come next."""

@@ -42,7 +42,25 @@ INTERFACE = {
               "best_placing(program, registers, rows, turns)"],
     "moves": ["closed_rounds(moves)", "fewest_in_row(moves)", "in_a_row(moves, spare)", "is_in_row(moves, spare, told)",
               "fewest_of_step(step)", "row_of_step(step, spare)", "does_step(step, spare, told)"],
+    "lines": ["Lines(rows, marks)", "run_lines(lines, begin, most)", "is_lines(code, spare, told)", "lines_of(code, spare)"],
+    "codetexts": ["code_text(code)", "code_of_text(text)"],
+    "widths": ["Bare(points, pairs)", "bare_of(graph)", "is_bare_tree(bare, told)", "lots_by(bare, order)", "least_width(bare)",
+               "least_lots(bare)", "escapes(bare, guards)", "is_escape(bare, guards, told)", "narrow(bare, width)",
+               "is_nest(bare, told)", "order_of(nest)", "nest(bare)"],
+    "jumps": ["jumped(graph, jumps)", "lots_with(lots, points)", "wide_jumps(graph)"],
+    "webs": ["webs_of(program)", "clashes(program)", "fewest_still(program)", "still(program, registers)", "Still(registers)",
+             "Stuck(tree)", "is_still(program, registers, told)"],
+    "changes": ["reached(program)", "without_dead(program)", "followed(program)", "reckoned(program)", "turned(program)",
+                "settled(program)", "swapped(program, path, index)"],
+    "desk": ["Desk()"],
+    "journal": ["mended(text)", "replayed(text)", "sum_of(deed, ahead)"],
 }
+
+DESK_METHODS = (
+    "put(self, name, text)", "edit(self, name, line, text)", "change(self, name, word)", "rename(self, name, new)", "drop(self, name)",
+    "keep(self, promise)", "release(self, promise)", "undo(self)", "redo(self)", "attempt(self, action)", "trial(self, action)",
+    "names(self)", "promises(self)", "program(self, name)", "text(self, name)", "least(self, name, registers)", "asked(self, promise)",
+    "broken(self)", "journal(self)", "copied(self)")
 
 METHODS = (
     "append clear copy count endswith extend find get index insert isalnum isalpha isdigit islower isspace isupper items join "
@@ -226,7 +244,11 @@ class Interface(unittest.TestCase):
 
     def test_listed_methods_stand_in_their_class(self):
         from sevenpoints.programs import Program
+        from sevenpoints.desk import Desk
         self.assertEqual(str(inspect.signature(vars(Program)["names"])), "(self)")
+        for row in DESK_METHODS:
+            name = row.split("(")[0]
+            self.assertEqual(name + str(inspect.signature(vars(Desk)[name])), row)
 
 
 if __name__ == "__main__":
