@@ -4,7 +4,6 @@ from sevenpoints.words import lines_of, words_of
 
 SUM_BOUND = 9973
 SUM_FACTOR = 31
-LINE_FEED_WORD = ";"
 
 
 def deed_sum(deed, ahead):
@@ -26,12 +25,12 @@ def journal_text(deeds):
 def words_as_told(text):
     """The words of a text, with a word for each line feed between lines that have words."""
     rows = [" ".join(words_of(line)) for line in lines_of(text)]
-    return f" {LINE_FEED_WORD} ".join([row for row in rows if row])
+    return " ; ".join([row for row in rows if row])
 
 
 def text_told(words):
     """The text that words_as_told tells by these words."""
-    return " ".join(["\n" if word == LINE_FEED_WORD else word for word in words])
+    return " ".join(["\n" if word == ";" else word for word in words])
 
 
 def put_deed(name, text):

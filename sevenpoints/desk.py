@@ -120,17 +120,14 @@ class Desk:
     def attempt(self, action):
         """Call a function with this desk; all that it does is one edit, or nothing if an error is raised."""
         keeping = self.keeping
-        levels = keeping.levels
-        state = keeping.state
-        keeping.begin()
-        try:
-            result = action(self)
-            told = keeping.state
-            deeds = keeping.attempted()
-        finally:
-            keeping.levels = levels
-            keeping.state = state
-        keeping.make(told, deeds)
+
+        def tried(desk):
+            """Do it, and tell what it has led to, too."""
+            result = action(desk)
+            return result, keeping.state, keeping.attempted()
+
+        result, state, deeds = self.trial(tried)
+        keeping.make(state, deeds)
         return result
 
     def trial(self, action):

@@ -39,7 +39,8 @@ def known_at(graph, first):
 
 def row_followed(row, known):
     """A value, a pair, or the deed of a give, each operand that is a name replaced by what it is as."""
-    return row[:1] + tuple([known.get(operand, operand) if isinstance(operand, str) else operand for operand in row[1:]])
+    told = [known.get(operand, operand) if isinstance(operand, str) else operand for operand in row[1:]]
+    return row[:1] + tuple(told)
 
 
 def deed_followed(deed, known):

@@ -1,4 +1,7 @@
-"""Parts: sets of points of a bare graph that hold together. A set of points is an integer, with a bit for each point."""
+"""Parts: sets of points of a bare graph that hold together.
+
+A set of points is an integer, with a bit for each point.
+"""
 
 
 def mask_of(points):

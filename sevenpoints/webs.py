@@ -73,8 +73,8 @@ def barred_for(near, chosen, web):
 
 def hardest_web(near, chosen):
     """A web that isn't chosen, one of those that the most registers are barred for."""
-    ways = [(len(barred_for(near, chosen, web)), len(near[web]), -web) for web in range(len(near)) if chosen[web] is None]
-    return -max(ways)[2]
+    left = [web for web, number in enumerate(chosen) if number is None]
+    return -max([(len(barred_for(near, chosen, web)), len(near[web]), -web) for web in left])[2]
 
 
 def with_web(chosen, web, number):
