@@ -92,7 +92,7 @@ def reckoned_statement(statement):
         return (with_blocks(statement, blocks),)
     holds = decision(statement[1])
     if holds is None:
-        return (with_blocks((word, reckoned_condition(statement[1])) + statement[2:], blocks),)
+        return ((word, reckoned_condition(statement[1])) + tuple(blocks),)
     if word == "if":
         return blocks[0] if holds else blocks[1]
     return (("loop", blocks[0]),) if holds else ()

@@ -5,7 +5,6 @@ from sevenpoints.changes import ALL_CHANGES, changed_by
 from sevenpoints.deedlines import edit_deed, journal_text, put_deed
 from sevenpoints.errors import BadName, BadNumber, BadText, NoName, TakenName
 from sevenpoints.keeping import Keeping, State
-from sevenpoints.placings import check_registers
 from sevenpoints.programs import is_name
 from sevenpoints.promises import Item, is_about, one_spaced, with_item
 from sevenpoints.rows import is_between
@@ -160,9 +159,7 @@ class Desk:
 
     def least(self, name, registers):
         """The least number of pieces of a placing of an item."""
-        program = self.item(name).held
-        check_registers(registers)
-        return least_pieces(program, registers)[0]
+        return least_pieces(self.item(name).held, registers)[0]
 
     def asked(self, promise):
         """Whether a promise is kept now, and its witness if it is not."""

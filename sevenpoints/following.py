@@ -45,7 +45,7 @@ def row_followed(row, known):
 
 def deed_followed(deed, known):
     """A deed, each operand that is a name replaced by what it is as."""
-    if known is None or deed[0] == "skip":
+    if known is None:
         return deed
     if deed[0] == "set":
         return ("set", deed[1], row_followed(deed[2], known))

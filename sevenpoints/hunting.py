@@ -8,7 +8,7 @@ from sevenpoints.parts import many_in, points_in
 
 def neighbors_then(parts, point, gone):
     """The neighbors that a point has once all points of a set have been taken out."""
-    whole = parts.part_with(1 << point, gone | (1 << point))
+    whole = parts.part_with(1 << point, gone)
     return parts.around(whole) & (parts.whole ^ whole)
 
 

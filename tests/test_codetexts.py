@@ -137,7 +137,7 @@ class Reading(Case):
                 ("0 set", 3), ("0 set 5", 3), ("0 set #", 3), ("0 set #-1", 3), ("0 set #01", 3), ("0 set #1234567890", 3), ("0 set # 1", 3),
                 ("0 set if", 3), ("0 set A", 3), ("0 set a", 4), ("0 set a =", 4), ("0 set a as", 5), ("0 set a as plus", 5), ("0 set a as b", 6),
                 ("0 set a as b c", 6), ("0 set a as b plus", 7), ("0 set a as b plus c plus", 8), ("0 set a as b times c", 7),
-                ("0 set a as b times #0", 7), ("0 set a as b times 1234567890", 7), ("0 set a as b times -1234567890", 7), ("0 set a as -0", 5),
+                ("0 set a as b times #0", 7), ("0 set a as b times 1234567890", 7), ("0 set a as b times -1234567890", 7), ("0 set a as -0", 5), ("0 set a as 1000000000", 5), ("0 set #1000000000", 3), ("1000000000 skip", 1), ("0 skip go 1000000000", 4),
                 ("0 set None as 3", 3), ("0 drop a as b", 4), ("0 drop", 3), ("0 drop a plus", 5),
                 ("0 test", 3), ("0 test a", 4), ("0 test a plus b", 4), ("0 test a is", 5), ("0 test a is b", 6), ("0 test a is b go 3", 6),
                 ("0 test a is b True", 6), ("0 test a is b yes no", 7), ("0 test not a is b", 3), ("0 give", 3), ("0 give a b", 4),

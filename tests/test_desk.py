@@ -428,7 +428,7 @@ class Words(Case):
                 ("a with 00", 3), ("a with 1", 4), ("a with 1 less", 4), ("a with 1 most", 5), ("a with 1 most -1", 5), ("a with 1 most 1234567890", 5),
                 ("a with 1 most 05", 5), ("a with 1 most 5 5", 6), ("a with 1 most -0", 5), ("a still", 3), ("a still 4", 3), ("a still 3 3", 4),
                 ("a ready", 3), ("a ready y", 3), ("a ready x x", 4), ("with ready", 2), ("gives ready x", 2), ("a gives", 3), ("a gives x", 3),
-                ("a gives 1234567890", 3), ("a gives -1234567890", 3), ("a gives 5", 4), ("a gives 5 of", 4), ("a gives 5 in", 5), ("a gives 5 in 401", 5),
+                ("a gives 1234567890", 3), ("a gives 1000000000", 3), ("a gives -1000000000", 3), ("a with 1 most 1000000000", 5), ("a gives -1234567890", 3), ("a gives 5", 4), ("a gives 5 of", 4), ("a gives 5 in", 5), ("a gives 5 in 401", 5),
                 ("a gives 5 in -1", 5), ("a gives 5 in 400", 6), ("a gives 5 in 4 5", 6), ("a gives 5 in 4 of", 7), ("a gives 5 in 4 of 5 6", 8),
                 ("with gives 3 in 4 of", 6), ("gcd gives 3 in 4 of 5", 8), ("gcd gives 3 in 4 of 5 6 7", 9), ("a gives 5 in 4 of 1234567890", 7),
                 ("a as", 3), ("a as b", 3), ("a as a", 4), ("a as a to", 4), ("a as a from", 5), ("a as a from 100", 5), ("a as a from -100", 5),

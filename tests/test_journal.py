@@ -409,6 +409,7 @@ class Mended(Case):
         cut = replayed(text[:text.index("close")])
         self.assertEqual(cut.journal(), text[:text.index("begin")])
         cut.keep("a like a")
+        self.assertGreater(cut.journal(), text[:text.index("begin")])
         cut.undo()
         self.assertEqual(cut.attempt(lambda one: one.names()), ("a", "b"))
 

@@ -252,7 +252,7 @@ class Judged(Case):
         ends = (copy(1, 2), ("give", at(1)), ("give", 0))
         marks = (0, None, 4, 3, 1)
         for pair, right in ((("below", at(0), at(1)), True), (("below", at(1), at(0)), False), (("most", at(0), at(1)), False),
-                            (("is", at(0), at(1)), False), (("below", at(0), at(2)), False), (("below", at(0), 0), False)):
+                            (("is", at(0), at(1)), False), (("below", at(0), at(2)), False), (("below", at(2), at(1)), False), (("below", at(0), 0), False)):
             self.judged(told_of, 9, (("when", pair, 2), ("give", at(0))) + ends, marks, right)
         # What its operands are when it is come to counts, not what they are called.
         self.judged(told_of, 9, (copy(9, 0), ("when", ("below", at(9), at(1)), 3), ("give", at(9))) + ends, (0, None, 5, 4, 2), False)
@@ -311,8 +311,8 @@ class Judged(Case):
     def test_what_is_no_line(self):
         told_of = code((0, SKIP, (), 3), (3, ("give", 7), (), 1), (2, ("give", 7), (), 1))
         wrong = OTHERS + (
-            ("jump",), ("jump", 0, 0), ("jump", 9), ("jump", -1), ("jump", True), ("jump", None), ("jump", "1"), ("when", ("is", 0, 0)),
-            ("when", ("is", 0, 0), 9), ("when", ("is", 0, 0), -1), ("when", ("is", 0), 1), ("when", ("not", 0, 0), 1), ("when", ("is", 0, 0, 0), 1),
+            ("jump",), ("jump", 0, 0), ("jump", 3), ("jump", 4), ("jump", 9), ("jump", -1), ("jump", True), ("jump", None), ("jump", "1"), ("when", ("is", 0, 0)),
+            ("when", ("is", 0, 0), 3), ("when", ("is", 0, 0), 4), ("when", ("is", 0, 0), 9), ("when", ("is", 0, 0), -1), ("when", ("is", 0), 1), ("when", ("not", 0, 0), 1), ("when", ("is", 0, 0, 0), 1),
             ("when", ("is", "a", 0), 1), ("when", ("is", ("at", -1), 0), 1), ("when", ("is", True, 0), 1), ("when", 3, 1), ("when", (3, 0, 0), 1),
             ("give",), ("give", 0, 0), ("give", "a"), ("give", True), ("give", None), ("give", ("at", True)), ("give", ("as", 1)), ("set", 0),
             ("set", None, ("as", 1)), ("set", 0, ("as",)), ("set", 0, 1), ("set", 0, ("times", 1, at(1))), ("set", True, ("as", 1)), ("skip",),

@@ -124,7 +124,7 @@ class Bares(Case):
     def test_errors_in_their_order(self):
         for points in NO_NUMBERS + (0,):
             self.refused(BadNumber, {"what": "points", "value": points}, Bare, points, None)
-        for pairs in (None, 3, "ab", {}, (3,), ("ab",), ((0,),), ((0, 1, 2),), ((0, 0),), ((0, 3),), ((-1, 0),), ((0, True),), ((False, 1),),
+        for pairs in (None, 3, "ab", {}, (3,), ("ab",), ((0,),), ((0, 1, 2),), ((0, 0),), ((0, 3),), ((3, 0),), ((4, 0),), ((0, -1),), ((-1, 0),), ((0, True),), ((False, 1),),
                       ((0, "1"),), ((0, None),), ((0, 1.0),), ((0, 1), None), ((0, 1), (2, 2)), {0: 1}, (((0,), 1),)):
             self.refused_with(BadRow, "value", pairs, Bare, 3, pairs)
 
@@ -367,7 +367,8 @@ class Escapes(Case):
         for most in NO_NUMBERS:
             self.refused(BadNumber, {"what": "width", "value": most}, narrow, FULL[10], most)
         for most in (0, 9):
-            self.refused(TooMany, {"what": "points", "limit": 10}, narrow, FULL[10], most)
+            for bare in (FULL[10], Bare(11, ())):
+                self.refused(TooMany, {"what": "points", "limit": 10}, narrow, bare, most)
 
 
 class Nests(Case):
