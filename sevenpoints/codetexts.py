@@ -4,7 +4,7 @@ from sevenpoints.errors import BadText
 from sevenpoints.machine import Code, Step
 from sevenpoints.places import is_cell, place_set
 from sevenpoints.programs import PAIR_WORDS, is_name
-from sevenpoints.words import Line, integer_of, lines_of, words_of
+from sevenpoints.words import Line, integer_of, lines_in, words_of
 
 REGISTER_SIGN = "#"
 GREATEST_INTEGER = 999999999
@@ -138,5 +138,5 @@ def code_of_text(text):
     """The Code that a text tells."""
     if not isinstance(text, str):
         raise BadText(0, 0)
-    rows = [words_of(line) for line in lines_of(text)]
+    rows = [words_of(line) for line in lines_in(text)]
     return Code([take_step(Line(at + 1, words)) for at, words in enumerate(rows) if words])

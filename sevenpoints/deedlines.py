@@ -1,6 +1,6 @@
 """Deed lines: how the journal of a desk tells deeds, each in a line with its sum."""
 
-from sevenpoints.words import lines_of, words_of
+from sevenpoints.words import lines_in, words_of
 
 SUM_BOUND = 9973
 SUM_FACTOR = 31
@@ -24,7 +24,7 @@ def journal_text(deeds):
 
 def words_as_told(text):
     """The words of a text, with a word for each line feed between lines that have words."""
-    rows = [" ".join(words_of(line)) for line in lines_of(text)]
+    rows = [" ".join(words_of(line)) for line in lines_in(text)]
     return " ; ".join([row for row in rows if row])
 
 

@@ -9,7 +9,7 @@ from sevenpoints.programs import is_name
 from sevenpoints.promises import Item, is_about, one_spaced, with_item
 from sevenpoints.rows import is_between
 from sevenpoints.texts import program_of, program_text
-from sevenpoints.words import lines_of
+from sevenpoints.words import lines_in
 
 
 def item_of(name, program):
@@ -19,8 +19,8 @@ def item_of(name, program):
 
 def with_line(text, line, told):
     """A text with the lines of another one in the place of the line with a number, or behind all."""
-    lines = lines_of(text)
-    whole = lines[:line - 1] + lines_of(told) + lines[line:]
+    lines = lines_in(text)
+    whole = lines[:line - 1] + lines_in(told) + lines[line:]
     return "".join([one + "\n" for one in whole])
 
 
@@ -61,7 +61,7 @@ class Desk:
     def edit(self, name, line, text):
         """Put the lines of a text in the place of a line of an item's text."""
         item = self.item(name)
-        if not is_between(line, 1, len(lines_of(item.wording)) + 1):
+        if not is_between(line, 1, len(lines_in(item.wording)) + 1):
             raise BadNumber("line", line)
         if not isinstance(text, str):
             raise BadText(0, 0)

@@ -5,7 +5,7 @@ from sevenpoints.programs import (
     GREATEST_FACTOR, GREATEST_OPERAND, LEAVING_WORDS, LOOP_WORDS, MOST_INPUTS, MOST_NAMES, MOST_PAIRS, MOST_PARTS,
     MOST_STATEMENTS, PAIR_WORDS, Program, is_name,
 )
-from sevenpoints.words import Line, lines_of, words_of
+from sevenpoints.words import Line, lines_in, words_of
 
 DEEPEST_PARENTHESIS = 8
 
@@ -207,7 +207,7 @@ class Reader:
 def program_read(text):
     """The Program that a text tells, which must be a string."""
     reader = Reader()
-    lines = lines_of(text)
+    lines = lines_in(text)
     for at, line in enumerate(lines):
         words = words_of(line)
         if words:

@@ -5,7 +5,7 @@ from sevenpoints.errors import BadText
 DIGITS = "0123456789"
 
 
-def lines_of(text):
+def lines_in(text):
     """The lines of a text; a line feed at its end begins no further one."""
     lines = text.split("\n")
     if lines[-1] == "":

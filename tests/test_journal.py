@@ -413,6 +413,22 @@ class Mended(Case):
         cut.undo()
         self.assertEqual(cut.attempt(lambda one: one.names()), ("a", "b"))
 
+    def test_at_the_limits(self):
+        desk = Desk()
+        for name in "abcdef":
+            desk.put(name, program_text(GCD).replace("program gcd", "program " + name))
+        promises = ("a as b from 0 to 13 in 400", "b like c", "c with 3 most 999999999", "d with 1 least 3", "e still 3", "f ready t",
+                    "a gives 6 in 400 of 12 18", "e as f from -7 to 6 in 400")
+        for promise in promises:
+            desk.keep(promise)
+        for at in range(33):
+            desk.edit("abcdef"[at % 6], 2, "t = 3\nwhile not b is 0")
+            desk.undo()
+        self.assertEqual(desk.journal().count("\n"), 80)
+        self.assertEqual(replayed(desk.journal()).promises(), promises)
+        self.same(desk.journal(), desk.journal())
+        self.assertEqual(state_of(desk.copied()), state_of(desk))
+
     def test_undo_at_the_end_of_all(self):
         desk = replayed(summed("put a : " + WORDS_OF_ECHO))
         desk.undo()
